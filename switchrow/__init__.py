@@ -1,0 +1,1 @@
+"""Sentences of all and some."""
