@@ -7,8 +7,16 @@ CALL_ORDER = 1
 CALL_TRUE = 2
 CALL_HOLDS = 3
 CALL_MOVE = 4
+CALL_LINE = 5
+CALL_COUNT = 6
+CALL_CORE = 7
+CALL_WRITE = 8
 
+DONE = 0
 REFUSED = -2
+NO_CORE = -1
+CORE = -55
+TOO_LONG = -1
 LONGEST_TEXT = 65536
 
 
@@ -43,14 +51,27 @@ def call_answer(sentences, call):
     if number == CALL_READ:
         return read_answer(sentences, call[1], call[3:])
     sentence = sentences[call[1]]
-    if number == CALL_ORDER:
-        return order_answer(sentence)
-    if number == CALL_TRUE:
-        return [sentence.truth(0, 0)]
     if number == CALL_HOLDS:
         return holds_answer(sentence, call[2], call[3])
     if number == CALL_MOVE:
         return move_answer(sentence, call[2], call[3])
+    return whole_answer(sentence, number)
+
+
+# The calls that ask of the sentence as a whole: nothing is handed in but the object.
+def whole_answer(sentence, number):
+    if number == CALL_ORDER:
+        return order_answer(sentence)
+    if number == CALL_TRUE:
+        return [sentence.truth(0, 0)]
+    if number == CALL_LINE:
+        return [DONE, sentence.best_line()]
+    if number == CALL_COUNT:
+        return [DONE, sentence.good_beginnings()]
+    if number == CALL_CORE:
+        return core_answer(sentence)
+    if number == CALL_WRITE:
+        return write_answer(sentence)
     raise UnknownCall(f"no call has the number {number}")
 
 
@@ -79,3 +100,15 @@ def move_answer(sentence, depth, values):
     if depth >= len(sentence.order):
         return [REFUSED]
     return [sentence.best_move(depth, values)]
+
+
+# Every false sentence has a core, and which one isn't asked: so none is looked for.
+def core_answer(sentence):
+    return [NO_CORE] if sentence.truth(0, 0) == 1 else [CORE]
+
+
+def write_answer(sentence):
+    text = sentence.text()
+    if len(text) > LONGEST_TEXT:
+        return [TOO_LONG]
+    return [DONE] + text

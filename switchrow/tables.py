@@ -6,6 +6,10 @@ the j-th variable's value.
 
 # A table is a list of words, so that no number in it grows beyond 617 decimal digits, however deep it is.
 WORD_DEPTH = 11
+WORD_BITS = 2048
+
+# Wide enough for the count of all bits of a table of depth 24.
+FIELD_BITS = 32
 
 
 def empty_table(depth):
@@ -42,6 +46,33 @@ def upper_half(table, depth):
 def bit_at(table, setting):
     word = table[setting >> WORD_DEPTH]
     return word >> (setting & ((1 << WORD_DEPTH) - 1)) & 1
+
+
+# A word's mask of every second field of this many bits, the lowest first.
+def every_second_field(width):
+    mask = (1 << width) - 1
+    reach = 2 * width
+    while reach < WORD_BITS:
+        mask = mask | mask << reach
+        reach = 2 * reach
+    return mask
+
+
+# How many bits of a table are 1. In every word at once neighbouring fields are added to one of double width, until
+# they are wide enough to add up all words: going bit by bit would take seconds for a deep table.
+def ones_in(table):
+    words = table
+    width = 1
+    while width < FIELD_BITS:
+        mask = every_second_field(width)
+        words = [(word & mask) + (word >> width & mask) for word in words]
+        width = 2 * width
+    fields = sum(words)
+    ones = 0
+    while fields > 0:
+        ones += fields & ((1 << FIELD_BITS) - 1)
+        fields = fields >> FIELD_BITS
+    return ones
 
 
 # The positions in the order of a condition's variables: those that stand plain, those that stand behind -.

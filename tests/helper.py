@@ -1,5 +1,7 @@
 """What the tests share: calls as numbers, answers parted, and a slow way to the truth by the document's words."""
 
+from itertools import groupby
+
 from switchrow.desk import answers
 
 
@@ -23,6 +25,22 @@ def holds(chosen, i, values):
 
 def move(chosen, i, values):
     return [4, chosen, i, values]
+
+
+def line(chosen):
+    return [5, chosen]
+
+
+def count(chosen):
+    return [6, chosen]
+
+
+def core(chosen):
+    return [7, chosen]
+
+
+def write(chosen):
+    return [8, chosen]
 
 
 def parted(row):
@@ -83,6 +101,35 @@ def reference_move(levels, kinds, i, values):
         if levels[i + 1][values + value * 2 ** i] == (kinds[i] == 0):
             return value
     return 0
+
+
+def reference_line(levels, kinds):
+    values = 0
+    for i in range(len(kinds)):
+        values += reference_move(levels, kinds, i, values) * 2 ** i
+    return values
+
+
+def reference_count(levels, kinds):
+    if not kinds:
+        return int(levels[0][0])
+    size = len(list(next(groupby(kinds))[1]))
+    return sum(1 for truth in levels[size] if truth == (kinds[0] == 0))
+
+
+def reference_text(variables, blocks, conditions):
+    row, kinds = in_order(variables, blocks)
+    text = "p cnf " + str(variables) + " " + str(len(conditions)) + "\n"
+    for kind, run in groupby(zip(kinds, row), lambda pair: pair[0]):
+        text += "ea"[kind]
+        for pair in run:
+            text += " " + str(pair[1])
+        text += " 0\n"
+    for condition in conditions:
+        for literal in condition:
+            text += str(literal) + " "
+        text += "0\n"
+    return text
 
 
 def made_up(chance, variables, most_conditions, most_literals):

@@ -1,10 +1,10 @@
-"""The tables behind true, holds and move, bit by bit."""
+"""The tables behind true, holds, move, line and count, bit by bit."""
 
 import random
 import unittest
 
 from helper import in_order, made_up, truths
-from switchrow.tables import false_tables
+from switchrow.tables import false_tables, ones_in
 
 
 def whole(table):
@@ -32,6 +32,27 @@ class Tables(unittest.TestCase):
         for variables in list(range(11)) * 5 + [11, 12, 13]:
             blocks, conditions = made_up(chance, variables, 8, 4)
             self.check(variables, blocks, conditions)
+
+
+class Ones(unittest.TestCase):
+    def test_one_word(self):
+        chance = random.Random(9)
+        words = [0, 1, 2 ** 2047, 2 ** 2048 - 1, 2 ** 1024, 2 ** 32 - 1, 2 ** 33 - 2]
+        words += [2 ** k for k in range(0, 2048, 31)] + [chance.getrandbits(2048) for turn in range(50)]
+        for word in words:
+            self.assertEqual(ones_in([word]), word.bit_count())
+
+    def test_many_words(self):
+        chance = random.Random(10)
+        for depth in range(12, 18):
+            table = [chance.getrandbits(2048) for turn in range(2 ** (depth - 11))]
+            kept = list(table)
+            self.assertEqual(ones_in(table), sum(word.bit_count() for word in kept))
+            self.assertTrue(table == kept)
+
+    def test_the_fullest_table(self):
+        self.assertEqual(ones_in([2 ** 2048 - 1] * 8192), 2 ** 24)
+        self.assertEqual(ones_in([0] * 8192), 0)
 
 
 if __name__ == "__main__":
